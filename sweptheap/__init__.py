@@ -1,0 +1,1 @@
+"""A heap swept in steps while it changes."""
