@@ -1,4 +1,4 @@
-"""The state that calls work on: cells with objects in them, and registers.
+"""The state that calls work on: cells with objects in them, registers, and how far the sweeper is.
 
 A value is None (nothing), an int (a number) or a HeapObject.
 """
@@ -9,20 +9,33 @@ CELL_COUNT = 64
 REGISTER_COUNT = 8
 MOST_SLOTS = 8
 
+WHITE = 0
+GREY = 1
+BLACK = 2
+
+IDLE = 0
+MARKING = 1
+SWEEPING = 2
+
 
 class HeapObject:
     """An object: two of them are the same only if they are one."""
 
-    def __init__(self, slot_count):
+    def __init__(self, slot_count, cell, colour):
         self.slots = [None] * slot_count
+        self.cell = cell
+        self.colour = colour
 
 
 class Heap:
-    """The state before the first call: all cells free, nothing in any register."""
+    """The state before the first call: all cells free, nothing in any register, idle."""
 
     def __init__(self):
         self.cells = [None] * CELL_COUNT
         self.registers = [None] * REGISTER_COUNT
+        self.phase = IDLE
+        # While it's sweeping: the cells below this one have been swept in this round.
+        self.next_cell = 0
 
 
 def is_register(number):

@@ -2,6 +2,7 @@
 
 from sweptheap.heap import HeapObject, MOST_SLOTS, is_register, least_free_cell, slot_refusal
 from sweptheap.refusals import NO_FREE_CELL, OUT_OF_RANGE
+from sweptheap.sweeper import birth_colour, shade_got
 
 
 def new_object(heap, r, n):
@@ -10,7 +11,7 @@ def new_object(heap, r, n):
     cell = least_free_cell(heap)
     if cell is None:
         return [NO_FREE_CELL]
-    made = HeapObject(n)
+    made = HeapObject(n, cell, birth_colour(heap, cell))
     heap.cells[cell] = made
     heap.registers[r] = made
     return [0]
@@ -22,7 +23,9 @@ def get_from_slot(heap, d, r, k):
     refusal = slot_refusal(heap, r, k)
     if refusal is not None:
         return [refusal]
-    heap.registers[d] = heap.registers[r].slots[k]
+    value = heap.registers[r].slots[k]
+    shade_got(heap, value)
+    heap.registers[d] = value
     return [0]
 
 

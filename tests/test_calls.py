@@ -1,4 +1,4 @@
-"""The seven calls at ordinary inputs and at the edges that the document names."""
+"""The calls new, get, put, num, clear, copy and look, at ordinary inputs and at the edges that the document names."""
 
 import unittest
 
